@@ -1,0 +1,1 @@
+"""Formulas of a sheet's cells, read and written in one form."""

@@ -1,0 +1,253 @@
+"""Point 5 as far as tidy goes, and what holds of every formula, over many of them."""
+
+import ast
+import itertools
+import random
+import unittest
+import unittest.mock
+
+from cellforms.formulas import tidy
+from cellforms.pieces import sign_piece
+from cellforms.reading import read_formula
+from cellforms.refusals import NotFormula, TooLong
+from cellforms.writing import write_formula
+from tests.asking import NOT_A_FORMULA, as_bytes, tidied
+
+SUM, TERM, FACTOR = 0, 1, 2
+PYTHONS = {ast.Add: "+", ast.Sub: "-", ast.Mult: "*", ast.Div: "/"}
+
+
+class Maker:
+    """Makes formulas at random, but the same each time: each with its blanks and brackets, and with its form."""
+
+    def __init__(self, seed):
+        self.random = random.Random(seed)
+
+    def blanks(self):
+        return " " * self.random.choice((0, 0, 0, 0, 0, 1, 2))
+
+    def cased(self, word):
+        return "".join(self.random.choice((letter.lower(), letter)) for letter in word)
+
+    def place(self):
+        column = (self.random.randrange(26), self.random.choice((0, 1)))
+        row = (self.random.choice((0, 1, 8, 9, 98, 99, 255)), self.random.choice((0, 1)))
+        return column, row
+
+    def placed(self, column, row):
+        return "$" * column[1] + "ABCDEFGHIJKLMNOPQRSTUVWXYZ"[column[0]] + "$" * row[1] + str(row[0] + 1)
+
+    def leaf(self):
+        pick = self.random.randrange(4)
+        if pick == 0:
+            return self.random.choice((("1.50", "1.5"), ("007", "7"), ("0.0", "0"), ("10", "10"), ("00.25", "0.25")))
+        if pick == 1:
+            return self.random.choice((('"a b"',) * 2, ('""',) * 2, ("#REF",) * 2))
+        form = self.placed(*self.place())
+        return self.cased(form), form
+
+    def argument(self, depth):
+        if self.random.randrange(3):
+            return self.part(depth)[:2]
+        one, other = self.place(), self.place()
+        (left, right), (top, bottom) = sorted((one[0], other[0])), sorted((one[1], other[1]))
+        messy = self.cased(self.placed(*one)) + self.blanks() + ":" + self.blanks() + self.cased(self.placed(*other))
+        return messy, self.placed(left, top) + ":" + self.placed(right, bottom)
+
+    def call(self, depth):
+        name = self.random.choice(("SUM", "COUNT", "MIN", "MAX"))
+        arguments = [self.argument(depth) for _ in range(self.random.choice((1, 1, 2, 3)))]
+        spread = ",".join(self.blanks() + messy + self.blanks() for messy, _ in arguments)
+        return self.cased(name) + self.blanks() + "(" + spread + ")", name + "(" + ",".join(form for _, form in arguments) + ")"
+
+    def choice(self, depth):
+        sums = [self.part(depth) for _ in range(4)]
+        sign = self.random.choice(("=", "<>", "<=", "<", ">=", ">"))
+        messy, form = "", ""
+        for ahead, (inner, inner_form, _) in zip(("(", sign, ",", ","), sums):
+            messy += ahead + self.blanks() + inner + self.blanks()
+            form += ahead + inner_form
+        return self.cased("IF") + messy + ")", "IF" + form + ")"
+
+    def bracketed(self, part, least):
+        messy, form, level = part
+        if level < least:
+            return "(" + self.blanks() + messy + ")", "(" + form + ")"
+        if self.random.randrange(5) == 0:
+            return "(" + messy + self.blanks() + ")", form
+        return messy, form
+
+    def part(self, depth):
+        pick = self.random.randrange(10) if depth else 0
+        if pick < 3:
+            return self.leaf() + (FACTOR,)
+        if pick == 3:
+            return self.call(depth - 1) + (FACTOR,)
+        if pick == 4:
+            return self.choice(depth - 1) + (FACTOR,)
+        if pick == 5:
+            messy, form = self.bracketed(self.part(depth - 1), FACTOR)
+            return "-" + self.blanks() + messy, "-" + form, FACTOR
+        signs, level = ("+-", SUM) if pick < 8 else ("*/", TERM)
+        sign = self.random.choice(signs)
+        left = self.bracketed(self.part(depth - 1), level)
+        right = self.bracketed(self.part(depth - 1), level + 1)
+        return left[0] + self.blanks() + sign + self.blanks() + right[0], left[1] + sign + right[1], level
+
+    def formulas(self, many):
+        made = []
+        while len(made) < many:
+            messy, form, _ = self.part(self.random.randrange(6))
+            messy = self.blanks() + messy + self.blanks()
+            if len(messy) <= 64:
+                made.append((messy, form))
+        return made
+
+
+def as_python(text):
+    """The formula as Python reads it, or None; for numbers, the four signs, "-" and "(" the two agree."""
+    try:
+        read = ast.parse(text.strip(), mode="eval").body
+    except SyntaxError:
+        return None
+    try:
+        return as_tree(read)
+    except (KeyError, TypeError):
+        return None
+
+
+def as_tree(node):
+    if isinstance(node, ast.BinOp):
+        return (PYTHONS[type(node.op)], as_tree(node.left), as_tree(node.right))
+    if isinstance(node, ast.UnaryOp) and isinstance(node.op, ast.USub):
+        return ("-", as_tree(node.operand))
+    if isinstance(node, ast.Constant):
+        return node.value
+    raise TypeError
+
+
+def without_a_pair(form):
+    """The form once for each pair of brackets, without that pair."""
+    fewer, ahead = [], []
+    for at, sign in enumerate(form):
+        if sign == "(":
+            ahead.append(at)
+        if sign == ")":
+            start = ahead.pop()
+            fewer.append(form[:start] + form[start + 1:at] + form[at + 1:])
+    return fewer
+
+
+class Again(unittest.TestCase):
+    def test_made_formulas_are_written_in_their_form(self):
+        for messy, form in Maker(1).formulas(3000):
+            self.assertEqual(tidied(messy), form, messy)
+
+    def test_read_again_it_is_the_same_formula_and_written_the_same(self):
+        for messy, _ in Maker(2).formulas(3000):
+            written = tidy(as_bytes(messy))[1:]
+            self.assertEqual(read_formula(written), read_formula(as_bytes(messy)), messy)
+            self.assertEqual(tidy(written), [0] + written, messy)
+
+    def test_a_form_is_never_longer_than_what_was_read(self):
+        for messy, _ in Maker(3).formulas(3000):
+            answer = tidy(as_bytes(messy))
+            self.assertEqual(answer[0], 0, messy)
+            self.assertLessEqual(len(answer) - 1, len(messy), messy)
+
+    def test_one_byte_changed(self):
+        chance = random.Random(4)
+        for messy, _ in Maker(4).formulas(1500):
+            p = as_bytes(messy)
+            p[chance.randrange(len(p))] = chance.choice(as_bytes('19.A$z+-*/(),:=<> "#') + [0, 31, 127, 255])
+            answer = tidy(p)
+            if answer != [NOT_A_FORMULA]:
+                self.assertEqual(answer[0], 0, messy)
+                self.assertEqual(tidy(answer[1:]), answer, messy)
+
+
+class BesidePython(unittest.TestCase):
+    def check(self, text):
+        tree = as_python(text)
+        form = tidied(text)
+        if tree is None:
+            self.assertEqual(form, NOT_A_FORMULA, text)
+            return
+        self.assertNotEqual(form, NOT_A_FORMULA, text)
+        self.assertEqual(as_python(form), tree, text)
+        for fewer in without_a_pair(form):
+            self.assertNotEqual(as_python(fewer), tree, text)
+
+    def test_all_short_ones(self):
+        for length in range(6):
+            for signs in itertools.product("1+-*/() ", repeat=length):
+                self.check("".join(signs))
+
+    def test_all_of_one_digit_and_brackets(self):
+        for signs in itertools.product("1-*()", repeat=7):
+            self.check("".join(signs))
+
+    def test_longer_ones(self):
+        chance = random.Random(5)
+        for _ in range(3000):
+            text = "1"
+            # Each step lies at most two deeper, so that seven stay within 16.
+            for _ in range(chance.randrange(1, 8)):
+                other = chance.choice(("2", "3", "(4+5)", "(6*7)"))
+                pattern = chance.choice(("({0}){1}{2}", "{0}{1}{2}", "{2}{1}({0})", "{2}{1}{0}", "-{0}", "-({0})"))
+                text = pattern.format(text, chance.choice("+-*/"), other)
+            self.check(text)
+
+
+class Handing(unittest.TestCase):
+    TEXTS = ("", "sum( b2:a1 , 007.50 )", "(1)", '"a"', "1+", "-(1+2)", " " * 65, "(" * 17, "IF(1<2,3,4)")
+
+    def test_the_list_stays_as_it_was(self):
+        for text in self.TEXTS:
+            p = as_bytes(text)
+            tidy(p)
+            self.assertEqual(p, as_bytes(text))
+
+    def test_what_is_given_back_is_a_list_of_its_own(self):
+        for text in self.TEXTS:
+            p = as_bytes(text)
+            first = tidy(p)
+            kept = list(first)
+            first.append(1)
+            first[0] = 5
+            self.assertEqual(p, as_bytes(text))
+            self.assertEqual(tidy(p), kept)
+
+    def test_it_holds_whole_numbers_alone(self):
+        for text in self.TEXTS:
+            answer = tidy(as_bytes(text))
+            self.assertIs(type(answer), list)
+            self.assertEqual({type(number) for number in answer}, {int})
+
+    def test_nothing_is_kept_between_calls(self):
+        alone = [tidy(as_bytes(text)) for text in self.TEXTS]
+        turned = [tidy(as_bytes(text)) for text in reversed(self.TEXTS)]
+        self.assertEqual(alone, list(reversed(turned)))
+
+
+class Lengths(unittest.TestCase):
+    """No formula of at most 64 bytes has a longer form, so the edge is tried on pieces."""
+
+    def test_64_bytes_are_written_and_65_are_not(self):
+        self.assertEqual(write_formula([sign_piece("-")] * 64), [45] * 64)
+        with self.assertRaises(TooLong):
+            write_formula([sign_piece("-")] * 65)
+
+    def test_too_long_is_answered_by_its_number_alone(self):
+        with unittest.mock.patch("cellforms.formulas.read_formula", lambda p: [sign_piece("-")] * 65):
+            self.assertEqual(tidy([49]), [-28])
+        with unittest.mock.patch("cellforms.formulas.read_formula", lambda p: [sign_piece("-")] * 64):
+            self.assertEqual(tidy([49]), [0] + [45] * 64)
+
+    def test_65_bytes_are_not_looked_at(self):
+        with self.assertRaises(NotFormula):
+            read_formula([None] * 65)
+
+
+if __name__ == "__main__":
+    unittest.main()
