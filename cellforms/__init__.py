@@ -1,1 +1,1 @@
-"""Formulas of a sheet's cells, read and written in one form."""
+"""Formulas of a sheet's cells, read, written in one form, and copied to other cells."""

@@ -1,5 +1,6 @@
 """The calls."""
 
+from cellforms.moving import copied_pieces
 from cellforms.reading import read_formula
 from cellforms.refusals import NotFormula, TooLong
 from cellforms.writing import write_formula
@@ -8,10 +9,18 @@ NOT_A_FORMULA = -71
 TOO_LONG = -28
 
 
-def tidy(p):
+def answer_written(p, change):
     try:
-        return [0] + write_formula(read_formula(p))
+        return [0] + write_formula(change(read_formula(p)))
     except NotFormula:
         return [NOT_A_FORMULA]
     except TooLong:
         return [TOO_LONG]
+
+
+def tidy(p):
+    return answer_written(p, lambda pieces: pieces)
+
+
+def copy(columns, rows, p):
+    return answer_written(p, lambda pieces: copied_pieces(pieces, columns, rows))

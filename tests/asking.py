@@ -1,8 +1,9 @@
 """What the tests share: formulas asked for and answered as Python's texts."""
 
-from cellforms.formulas import tidy
+from cellforms.formulas import copy, tidy
 
 NOT_A_FORMULA = -71
+TOO_LONG = -28
 
 
 def as_bytes(text):
@@ -18,3 +19,7 @@ def shown(answer):
 
 def tidied(text):
     return shown(tidy(as_bytes(text)))
+
+
+def copied(columns, rows, text):
+    return shown(copy(columns, rows, as_bytes(text)))
