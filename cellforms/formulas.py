@@ -2,10 +2,12 @@
 
 from cellforms.moving import copied_pieces
 from cellforms.reading import read_formula
-from cellforms.refusals import NotFormula, TooLong
+from cellforms.refusals import NotFormula, TooLong, WrongShift
+from cellforms.shifting import shifted_pieces
 from cellforms.writing import write_formula
 
 NOT_A_FORMULA = -71
+WRONG_SHIFT = -22
 TOO_LONG = -28
 
 
@@ -14,6 +16,8 @@ def answer_written(p, change):
         return [0] + write_formula(change(read_formula(p)))
     except NotFormula:
         return [NOT_A_FORMULA]
+    except WrongShift:
+        return [WRONG_SHIFT]
     except TooLong:
         return [TOO_LONG]
 
@@ -24,3 +28,7 @@ def tidy(p):
 
 def copy(columns, rows, p):
     return answer_written(p, lambda pieces: copied_pieces(pieces, columns, rows))
+
+
+def shift(what, at, many, p):
+    return answer_written(p, lambda pieces: shifted_pieces(pieces, what, at, many))

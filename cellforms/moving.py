@@ -1,10 +1,6 @@
-"""Moves the places and ranges among a formula's pieces."""
+"""Moves the places and ranges among a formula's pieces along with the formula."""
 
-from cellforms.pieces import COLUMNS, ROWS, range_piece, sign_piece
-
-
-def lost_piece():
-    return sign_piece("#REF")
+from cellforms.pieces import COLUMNS, ROWS, lost_piece, range_piece
 
 
 def further(line, by):

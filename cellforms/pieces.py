@@ -68,6 +68,10 @@ def sign_piece(sign):
     return (sign, None)
 
 
+def lost_piece():
+    return sign_piece("#REF")
+
+
 def range_piece(one, other):
     # Pairs are put in order by number, and of like numbers the one that isn't held comes first.
     columns = sorted([one[0], other[0]])

@@ -1,9 +1,13 @@
-"""What is refused, one error for each refusal, and the length that both are measured by."""
+"""What is refused, one error for each refusal, and the length that formulas are measured by."""
 
 MOST_BYTES = 64
 
 
 class NotFormula(Exception):
+    pass
+
+
+class WrongShift(Exception):
     pass
 
 

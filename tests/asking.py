@@ -1,8 +1,10 @@
 """What the tests share: formulas asked for and answered as Python's texts."""
 
-from cellforms.formulas import copy, tidy
+from cellforms.formulas import copy, shift, tidy
 
+LETTERS = "ABCDEFGHIJKLMNOPQRSTUVWXYZ"
 NOT_A_FORMULA = -71
+WRONG_SHIFT = -22
 TOO_LONG = -28
 
 
@@ -23,3 +25,17 @@ def tidied(text):
 
 def copied(columns, rows, text):
     return shown(copy(columns, rows, as_bytes(text)))
+
+
+def shifted(what, at, many, text):
+    return shown(shift(what, at, many, as_bytes(text)))
+
+
+class Unchanged(list):
+    """A list that fails if something is put into it, taken out or changed."""
+
+    def refuse(self, *given):
+        raise AssertionError("what was handed in is changed")
+
+    append = extend = insert = pop = remove = reverse = sort = clear = refuse
+    __setitem__ = __delitem__ = __iadd__ = __imul__ = refuse

@@ -2,7 +2,15 @@
 
 import random
 
+from cellforms.reading import read_formula
+from tests.asking import LETTERS
+
 SUM, TERM, FACTOR = 0, 1, 2
+
+
+def skeleton(p):
+    """The formula's pieces, with one and the same for all that points to the sheet."""
+    return ["#REF" if piece[0] in ("place", "range", "#REF") else piece for piece in read_formula(p)]
 
 
 class Maker:
@@ -28,9 +36,9 @@ class Maker:
         return column, row
 
     def placed(self, column, row):
-        return "$" * column[1] + "ABCDEFGHIJKLMNOPQRSTUVWXYZ"[column[0]] + "$" * row[1] + str(row[0] + 1)
+        return "$" * column[1] + LETTERS[column[0]] + "$" * row[1] + str(row[0] + 1)
 
-    def copied(self, place):
+    def moved(self, place):
         """The place so many columns and rows further, or None if that's off the sheet."""
         (column, column_held), (row, row_held) = place
         column += 0 if column_held else self.columns
@@ -39,6 +47,13 @@ class Maker:
             return None
         return (column, column_held), (row, row_held)
 
+    def moved_range(self, one, other):
+        """The columns and the rows that the range has then, or None if it's lost."""
+        one, other = self.moved(one), self.moved(other)
+        if one is None or other is None:
+            return None
+        return (one[0], other[0]), (one[1], other[1])
+
     def leaf(self):
         pick = self.random.randrange(4)
         if pick == 0:
@@ -46,18 +61,18 @@ class Maker:
         if pick == 1:
             return self.random.choice((('"a b"',) * 2, ('""',) * 2, ("#REF",) * 2))
         place = self.place()
-        copied = self.copied(place)
-        return self.cased(self.placed(*place)), self.placed(*copied) if copied else "#REF"
+        moved = self.moved(place)
+        return self.cased(self.placed(*place)), self.placed(*moved) if moved else "#REF"
 
     def argument(self, depth):
         if self.random.randrange(3):
             return self.part(depth)[:2]
         one, other = self.place(), self.place()
         messy = self.cased(self.placed(*one)) + self.blanks() + ":" + self.blanks() + self.cased(self.placed(*other))
-        one, other = self.copied(one), self.copied(other)
-        if one is None or other is None:
+        moved = self.moved_range(one, other)
+        if moved is None:
             return messy, "#REF"
-        (left, right), (top, bottom) = sorted((one[0], other[0])), sorted((one[1], other[1]))
+        (left, right), (top, bottom) = sorted(moved[0]), sorted(moved[1])
         return messy, self.placed(left, top) + ":" + self.placed(right, bottom)
 
     def call(self, depth):
@@ -120,3 +135,48 @@ class Maker:
             leaves.pop()
             made.append(tuple("*".join(written) for written in zip(*leaves)))
         return made
+
+
+class ShiftMaker(Maker):
+    """Makes formulas with their form as rows or columns are put into a sheet, or taken out of it."""
+
+    def __init__(self, seed, what, at, many):
+        super().__init__(seed)
+        self.of_rows = what in (0, 1)
+        self.size = 256 if self.of_rows else 26
+        near = (0, 1, at - 2, at - 1, at, at + 1, at + many - 1, at + many, self.size - many, self.size - 1)
+        self.near = [number for number in near if 0 <= number < self.size]
+        lines = list(range(self.size))
+        if what in (0, 2):
+            lines[at:at] = [None] * many
+        else:
+            del lines[at:at + many]
+        # Where each row or column comes to lie; those that are taken out come to lie nowhere.
+        self.there = {number: there for there, number in enumerate(lines) if number is not None}
+
+    def place(self):
+        column, row = super().place()
+        if self.random.randrange(4) == 0:
+            return column, row
+        near = self.random.choice(self.near)
+        return (column, (near, row[1])) if self.of_rows else ((near, column[1]), row)
+
+    def span(self, one, other):
+        """The first and the last of what's left of the lines from one to the other, or None if nothing is."""
+        (first, first_held), (last, last_held) = sorted((one, other))
+        left = [self.there[number] for number in range(first, last + 1) if number in self.there]
+        if not left or left[0] >= self.size:
+            return None
+        return (left[0], first_held), (min(left[-1], self.size - 1), last_held)
+
+    def moved(self, place):
+        columns, rows = self.moved_range(place, place) or (None, None)
+        return (columns[0], rows[0]) if columns else None
+
+    def moved_range(self, one, other):
+        columns, rows = sorted((one[0], other[0])), sorted((one[1], other[1]))
+        if self.of_rows:
+            rows = self.span(*rows)
+        else:
+            columns = self.span(*columns)
+        return (columns, rows) if columns and rows else None

@@ -7,10 +7,9 @@ import unittest
 from cellforms.formulas import copy, tidy
 from cellforms.moving import copied_pieces
 from cellforms.reading import read_formula
-from tests.asking import NOT_A_FORMULA, TOO_LONG, as_bytes, copied, tidied
-from tests.making import Maker
+from tests.asking import LETTERS, NOT_A_FORMULA, TOO_LONG, Unchanged, as_bytes, copied, tidied
+from tests.making import Maker, skeleton
 
-LETTERS = "ABCDEFGHIJKLMNOPQRSTUVWXYZ"
 LEAST = -2147483648
 MOST = 2147483647
 MOVES = ((0, 0), (1, 0), (0, 1), (-1, -1), (3, 7), (-25, 255), (25, -255), (26, 256), (LEAST, MOST), (MOST, LEAST))
@@ -434,11 +433,6 @@ class Made(unittest.TestCase):
                     self.assertEqual(skeleton(answer[1:]), skeleton(as_bytes(messy)), messy)
 
 
-def skeleton(p):
-    """The formula's pieces, with one and the same for all that points to the sheet."""
-    return ["#REF" if piece[0] in ("place", "range", "#REF") else piece for piece in read_formula(p)]
-
-
 class Handing(unittest.TestCase):
     TEXTS = ("", "sum( b2:a1 , 007.50 )", "(a1)", '"a1"', "a1+", "-(a1+$b2)", " " * 65, "(" * 17, "IF(A1<2,$C$3,d4)",
              "A1" + "+A1" * 20)
@@ -479,16 +473,6 @@ class Handing(unittest.TestCase):
         alone = [copy(columns, rows, as_bytes(text)) for (columns, rows), text in asked]
         turned = [copy(columns, rows, as_bytes(text)) for (columns, rows), text in reversed(asked)]
         self.assertEqual(alone, list(reversed(turned)))
-
-
-class Unchanged(list):
-    """A list that fails if something is put into it, taken out or changed."""
-
-    def refuse(self, *given):
-        raise AssertionError("what was handed in is changed")
-
-    append = extend = insert = pop = remove = reverse = sort = clear = refuse
-    __setitem__ = __delitem__ = __iadd__ = __imul__ = refuse
 
 
 if __name__ == "__main__":
