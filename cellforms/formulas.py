@@ -1,6 +1,7 @@
 """The calls."""
 
 from cellforms.moving import copied_pieces
+from cellforms.pointing import pointed_numbers
 from cellforms.reading import read_formula
 from cellforms.refusals import NotFormula, TooLong, WrongShift
 from cellforms.shifting import shifted_pieces
@@ -11,9 +12,9 @@ WRONG_SHIFT = -22
 TOO_LONG = -28
 
 
-def answer_written(p, change):
+def answer(p, tell):
     try:
-        return [0] + write_formula(change(read_formula(p)))
+        return [0] + tell(read_formula(p))
     except NotFormula:
         return [NOT_A_FORMULA]
     except WrongShift:
@@ -23,12 +24,16 @@ def answer_written(p, change):
 
 
 def tidy(p):
-    return answer_written(p, lambda pieces: pieces)
+    return answer(p, write_formula)
 
 
 def copy(columns, rows, p):
-    return answer_written(p, lambda pieces: copied_pieces(pieces, columns, rows))
+    return answer(p, lambda pieces: write_formula(copied_pieces(pieces, columns, rows)))
 
 
 def shift(what, at, many, p):
-    return answer_written(p, lambda pieces: shifted_pieces(pieces, what, at, many))
+    return answer(p, lambda pieces: write_formula(shifted_pieces(pieces, what, at, many)))
+
+
+def refs(p):
+    return answer(p, pointed_numbers)

@@ -1,6 +1,6 @@
 """What the tests share: formulas asked for and answered as Python's texts."""
 
-from cellforms.formulas import copy, shift, tidy
+from cellforms.formulas import copy, refs, shift, tidy
 
 LETTERS = "ABCDEFGHIJKLMNOPQRSTUVWXYZ"
 NOT_A_FORMULA = -71
@@ -29,6 +29,14 @@ def copied(columns, rows, text):
 
 def shifted(what, at, many, text):
     return shown(shift(what, at, many, as_bytes(text)))
+
+
+def pointed(text):
+    """A refusal's number, or the places and ranges, four numbers each."""
+    answer = refs(as_bytes(text))
+    if answer[0] != 0:
+        return answer[0] if len(answer) == 1 else answer
+    return [tuple(answer[at:at + 4]) for at in range(1, len(answer), 4)]
 
 
 class Unchanged(list):

@@ -1,4 +1,4 @@
-"""Point 5 as far as tidy goes, and what holds of every formula, over many of them."""
+"""Point 5: what is written is read as the same formula and written the same; and what holds of every formula."""
 
 import ast
 import itertools
@@ -6,12 +6,12 @@ import random
 import unittest
 import unittest.mock
 
-from cellforms.formulas import tidy
+from cellforms.formulas import copy, refs, shift, tidy
 from cellforms.pieces import sign_piece
 from cellforms.reading import read_formula
 from cellforms.refusals import NotFormula, TooLong
 from cellforms.writing import write_formula
-from tests.asking import NOT_A_FORMULA, as_bytes, tidied
+from tests.asking import NOT_A_FORMULA, TOO_LONG, as_bytes, copied, shifted, tidied
 from tests.making import Maker
 
 PYTHONS = {ast.Add: "+", ast.Sub: "-", ast.Mult: "*", ast.Div: "/"}
@@ -77,6 +77,56 @@ class Again(unittest.TestCase):
             if answer != [NOT_A_FORMULA]:
                 self.assertEqual(answer[0], 0, messy)
                 self.assertEqual(tidy(answer[1:]), answer, messy)
+
+
+class EachCall(unittest.TestCase):
+    """What tidy, copy and shift have written is, handed to tidy, written the same."""
+
+    EDGES = ("(" * 16 + "a1" + ")" * 16, "-" * 16 + "$a1", "-(" * 8 + "z256" + ")" * 8, "A1+" * 20 + "A100",
+             "SUM(A$1:A2,$A1:B1,$Y1:Z2,A$255:A256)", "SUM($b$2:a1,b$1:$a2)-max(z1:$a256)", "1-(a1-(b2-(c3)))",
+             "-(a1*2)/(b1*(c1/d1))", "if((a1)<>(-b2),(c3+d4),\"a \")*(e5+1)", "007.50*(a9+0.0)", "#REF-(#REF-a1)",
+             "SUM((a1),a1:a1,(#REF),$a$1:a1)", "A9+" * 21 + "1", "1" + "-(1" * 15 + ")" * 15)
+
+    def answers(self, p, chance):
+        yield tidy(p)
+        for columns, rows in ((0, 0), (1, 1), (-1, 0), (0, -1), (25, 0), (0, 255), (-2147483648, 2147483647)):
+            yield copy(columns, rows, p)
+        yield copy(chance.randint(-26, 26), chance.randint(-256, 256), p)
+        for what, size in enumerate((256, 256, 26, 26)):
+            for at, many in ((0, 1), (1, 1), (0, size), (1, size - 1), (size - 2, 1), (size - 1, 1)):
+                yield shift(what, at, many, p)
+            at = chance.randrange(size)
+            yield shift(what, at, chance.randint(1, size - at), p)
+
+    def written(self, p, chance):
+        for answer in self.answers(p, chance):
+            if answer != [TOO_LONG]:
+                self.assertEqual(answer[0], 0, p)
+                self.assertLessEqual(len(answer), 65, p)
+                yield answer[1:]
+
+    def test_it_is_written_the_same(self):
+        chance = random.Random(6)
+        texts = [messy for messy, _ in Maker(6).formulas(250) + Maker(7).long_formulas(40)]
+        for text in self.EDGES + tuple(texts):
+            for written in self.written(as_bytes(text), chance):
+                self.assertEqual(tidy(written), [0] + written, text)
+                self.assertEqual(copy(0, 0, written), [0] + written, text)
+
+    def test_one_call_behind_another(self):
+        chance = random.Random(8)
+        for messy, _ in Maker(8).formulas(150):
+            p = as_bytes(messy)
+            for _ in range(8):
+                p = chance.choice(list(self.written(p, chance)))
+                self.assertEqual(tidy(p), [0] + p, messy)
+
+    def test_each_call_takes_a_formula_as_its_form(self):
+        for messy, form in Maker(9).formulas(600):
+            self.assertEqual(copied(3, -4, form), copied(3, -4, messy))
+            for what in range(4):
+                self.assertEqual(shifted(what, 5, 6, form), shifted(what, 5, 6, messy))
+            self.assertEqual(refs(as_bytes(form)), refs(as_bytes(messy)))
 
 
 class BesidePython(unittest.TestCase):
